@@ -1,0 +1,1 @@
+"""Files tangled out of documents: document.answers makes the calls."""
