@@ -4,7 +4,7 @@ from tangledfiles.lines import CodeLine
 from tangledfiles.lines import ELSE
 from tangledfiles.lines import IF
 from tangledfiles.lines import ConditionLine
-from tangledfiles.lines import Use
+from tangledfiles.lines import names_used
 
 
 class Part:
@@ -42,26 +42,26 @@ class Document:
             self.names[part.name] = True
         for line in part.lines:
             if isinstance(line, CodeLine):
-                self.note_uses(line)
+                for name in names_used(line.pieces):
+                    self.names[name] = True
             elif line.kind == IF:
                 self.settings[line.setting] = True
 
-    def note_uses(self, line):
-        for piece in line.pieces:
-            if isinstance(piece, Use):
-                self.names[piece.name] = True
-
-    def piece_at(self, block, line, piece):
-        """The piece at this place, or None."""
+    def code_line_at(self, block, line):
+        """The code line at this place, or None."""
         if not 0 <= block < len(self.blocks) or self.blocks[block] is None:
             return None
         lines = self.blocks[block].lines
         if not 0 <= line < len(lines) or not isinstance(lines[line], CodeLine):
             return None
-        pieces = lines[line].pieces
-        if not 0 <= piece < len(pieces):
+        return lines[line]
+
+    def piece_at(self, block, line, piece):
+        """The piece at this place, or None."""
+        code_line = self.code_line_at(block, line)
+        if code_line is None or not 0 <= piece < len(code_line.pieces):
             return None
-        return pieces[piece]
+        return code_line.pieces[piece]
 
 
 def live_numbers(part, variant):

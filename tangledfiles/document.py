@@ -1,6 +1,7 @@
 """The calls on one object, told and answered in lists of whole numbers."""
 
 from tangledfiles.blocks import Document
+from tangledfiles.blocks import live_numbers
 from tangledfiles.homes import home_at
 from tangledfiles.homes import pairs_of_argument
 from tangledfiles.homes import pairs_of_literal
@@ -9,7 +10,11 @@ from tangledfiles.lines import Use
 from tangledfiles.making import byte_count
 from tangledfiles.making import make_file
 from tangledfiles.making import text_of
+from tangledfiles.names import LINE_END
+from tangledfiles.names import split_at
 from tangledfiles.names import split_settings
+from tangledfiles.reaching import idle_lines
+from tangledfiles.reaching import names_reached
 from tangledfiles.reading import TextFault
 from tangledfiles.reading import read_blocks
 
@@ -88,8 +93,7 @@ def answer_file(held, numbers, texts):
     made = held.make(path)
     if made.reason > 0:
         return [made.reason] + list(made.place)
-    text = text_of(made.rows)
-    return [0, len(text)] + text
+    return [0] + with_length(text_of(made.rows))
 
 
 def answer_count(held, numbers, texts):
@@ -139,9 +143,71 @@ def answer_argument(held, numbers, texts):
     return pairs_of_argument(held.make(path).rows, tuple(numbers[:3]), argument, sign)
 
 
+def answer_live(held, numbers, texts):
+    block = numbers[0]
+    line = numbers[1]
+    if held.document.code_line_at(block, line) is None:
+        return [NOTHING_THERE]
+    live = live_numbers(held.document.blocks[block], held.variant)
+    return [1 if line in live else 0]
+
+
+def answer_reached(held, numbers, texts):
+    path = texts[0]
+    if not held.has_file(path):
+        return [NO_FILE]
+    names = names_reached(held.document, held.variant, held.document.files[tuple(path)])
+    answer = [len(names)]
+    for name in names:
+        answer.extend(with_length(name))
+    return answer
+
+
+def answer_idle(held, numbers, texts):
+    places = idle_lines(held.document, held.variant)
+    answer = [len(places)]
+    for place in places:
+        answer.extend(place)
+    return answer
+
+
+def answer_check(held, numbers, texts):
+    path = texts[0]
+    text = texts[1]
+    refusal = held.refusal_of(path)
+    if refusal < 0:
+        return [refusal]
+    tangled = text_of(held.make(path).rows)
+    if text == tangled:
+        return [1, 0, 0]
+    # The place is told alike by either text: before it they are the same.
+    rows = split_at(text[:common_size(text, tangled)], LINE_END)
+    return [0, len(rows) - 1, len(rows[-1])]
+
+
+def answer_files(held, numbers, texts):
+    answer = [len(held.document.files)]
+    for path in held.document.files:
+        answer.extend(with_length(path))
+        answer.append(1 if held.make(path).reason == 0 else 0)
+    return answer
+
+
 def answer_size(held, numbers, texts):
     document = held.document
     return [len(document.blocks), len(document.files), len(document.names), len(held.variant)]
+
+
+def with_length(text):
+    return [len(text)] + list(text)
+
+
+def common_size(text, other):
+    """How many bytes two texts have alike before they first differ or one of them ends."""
+    size = 0
+    while size < min(len(text), len(other)) and text[size] == other[size]:
+        size += 1
+    return size
 
 
 # Of each call: how many numbers it has, how many texts, and what answers it.
@@ -153,6 +219,11 @@ CALLS = {
     4: (2, 1, answer_home),
     5: (4, 1, answer_where),
     6: (5, 1, answer_argument),
+    7: (2, 0, answer_live),
+    8: (0, 1, answer_reached),
+    9: (0, 0, answer_idle),
+    10: (0, 2, answer_check),
+    11: (0, 0, answer_files),
     12: (0, 0, answer_size),
 }
 

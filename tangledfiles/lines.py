@@ -131,6 +131,10 @@ def parse_use(inside):
     return Use(tuple(name), arguments)
 
 
+def names_used(pieces):
+    return [piece.name for piece in pieces if isinstance(piece, Use)]
+
+
 def is_alone_with_use(pieces):
     if len(pieces) == 1:
         return isinstance(pieces[0], Use)

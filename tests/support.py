@@ -53,6 +53,26 @@ def argument(block, line, piece, n, sign, path):
     return [6, block, line, piece, n, sign] + with_length(path)
 
 
+def live(block, line):
+    return [7, block, line]
+
+
+def reached(path):
+    return [8] + with_length(path)
+
+
+def idle():
+    return [9]
+
+
+def check(path, text):
+    return [10] + with_length(path) + with_length(text)
+
+
+def files():
+    return [11]
+
+
 def size():
     return [12]
 
@@ -79,6 +99,20 @@ def last(*calls):
 def text_answer(lines):
     """What file answers for a file of these lines."""
     return [0] + with_length(ended(lines))
+
+
+def texts_answer(*texts):
+    """What reached answers for these names."""
+    return [len(texts)] + [number for text in texts for number in with_length(text)]
+
+
+def pairs_answer(*pairs):
+    return [len(pairs)] + [number for pair in pairs for number in pair]
+
+
+def files_answer(*entries):
+    """What files answers for these pairs of a path and 1 or 0."""
+    return [len(entries)] + [number for path, makes in entries for number in with_length(path) + [makes]]
 
 
 def made(lines, path="m", settings=""):

@@ -1,14 +1,114 @@
+import builtins
 import contextlib
 import io
 import unittest
+from unittest import mock
 
 from tangledfiles.document import answers
-from tests.support import (EXAMPLE, argument, count, file, home, last, listed, read, read_lines, size, variant,
+from tests.support import (EXAMPLE, argument, check, count, ended, file, files, files_answer, home, idle, last, listed,
+                           live, reached, read, read_lines, size, split_answers, text_answer, texts_answer, variant,
                            where, with_length)
 
 TEXT = [
     "@file m", "x", "@end",
 ]
+
+
+WITHOUT_S = ["a", "  f(x, x);", "  one", "", "  f(, )"]
+WITH_S = ["a", "  f(x, x);", "  one", "   two", "  f(, )"]
+
+# Forty calls, all thirteen among them, each with what it answers.
+MIXED = (
+    (size(), [0, 0, 0, 0]),
+    (files(), [0]),
+    (idle(), [0]),
+    (read_lines(*EXAMPLE), [0, 3]),
+    (size(), [3, 1, 2, 0]),
+    (files(), files_answer(("m", 1))),
+    (file("m"), text_answer(WITHOUT_S)),
+    (count("m"), [5, 28]),
+    (home(1, 4, "m"), [120, 1, 0, 1, 1, 0, 0, 1, 0, 1, 1, 0, 1, 1]),
+    (where(0, 2, 0, 1, "m"), [1, 2, 1]),
+    (home(4, 0, "m"), [32, 2, 0, 2, 1, 0]),
+    (argument(0, 1, 1, 0, 0, "m"), [2, 1, 4, 1, 7]),
+    (idle(), [1, 2, 2]),
+    (live(2, 2), [0]),
+    (live(2, 4), [1]),
+    (live(2, 1), [-2]),
+    (reached("m"), texts_answer("b", "c")),
+    (reached("n"), [-3]),
+    (check("m", ended(WITHOUT_S)), [1, 0, 0]),
+    (check("m", ended(WITH_S)), [0, 3, 0]),
+    (variant("s"), [1]),
+    (idle(), [1, 2, 4]),
+    (file("m"), text_answer(WITH_S)),
+    (live(2, 2), [1]),
+    (live(2, 4), [0]),
+    (check("m", ended(WITH_S)), [1, 0, 0]),
+    (check("m", ""), [0, 0, 0]),
+    (where(2, 2, 0, 1, "m"), [1, 3, 3]),
+    (count("m"), [5, 34]),
+    (size(), [3, 1, 2, 1]),
+    (variant("s s"), [-1]),
+    (read_lines("@end"), [1, 2]),
+    (size(), [3, 1, 2, 1]),
+    (read_lines("@file m", "@{b}", "@end", "@file n", "@if s", "y", "@fi", "@end"), [0, 2]),
+    (files(), files_answer(("m", 0), ("n", 1))),
+    (check("m", ""), [-4]),
+    (home(0, 0, "m"), [-4]),
+    (file("m"), [1, 0, 0, 0]),
+    (reached("m"), texts_answer("b")),
+    (argument(0, 0, 0, 0, 0, "n"), [-2]),
+)
+
+
+def mixed_calls():
+    return [number for call, answer in MIXED for number in call]
+
+
+def refuse(*told, **named):
+    raise AssertionError("a list that is handed in was changed, or something was read or imported")
+
+
+class Unchanged(list):
+    """A list that can be read, and fails as soon as it is changed."""
+
+    append = extend = insert = pop = remove = clear = sort = reverse = refuse
+    __setitem__ = __delitem__ = __iadd__ = __imul__ = refuse
+
+
+class AllCalls(unittest.TestCase):
+    def test_forty_calls_of_all_kinds(self):
+        self.assertEqual(len(MIXED), 40)
+        self.assertEqual({call[0] for call, answer in MIXED}, set(range(13)))
+        self.assertEqual(split_answers(answers(mixed_calls())), [answer for call, answer in MIXED])
+
+    def test_list_is_left_as_it_was(self):
+        calls = mixed_calls()
+        answers(calls)
+        self.assertEqual(calls, mixed_calls())
+
+    def test_list_is_not_changed_for_a_while(self):
+        self.assertEqual(answers(Unchanged(mixed_calls())), answers(mixed_calls()))
+
+    def test_nothing_is_kept(self):
+        first = answers(mixed_calls())
+        self.assertEqual(answers(mixed_calls()), first)
+        self.assertEqual(answers(idle() + files() + live(0, 0) + reached("m") + check("m", "") + size()),
+                         [1, 0, 1, 0, 1, -2, 1, -3, 1, -3, 4, 0, 0, 0, 0])
+
+    def test_answers_are_whole_numbers(self):
+        self.assertEqual({type(number) for number in answers(mixed_calls())}, {int})
+
+    def test_nothing_is_printed_read_or_imported(self):
+        calls = mixed_calls()
+        out = io.StringIO()
+        with contextlib.redirect_stdout(out), contextlib.redirect_stderr(out):
+            with mock.patch.object(builtins, "open", refuse), mock.patch.object(builtins, "input", refuse):
+                with mock.patch.object(builtins, "__import__", refuse):
+                    given = answers(calls)
+        self.assertEqual(out.getvalue(), "")
+        self.assertEqual(given, answers(calls))
 
 
 class Lists(unittest.TestCase):
@@ -39,6 +139,11 @@ class Lists(unittest.TestCase):
         self.assertEqual(answers([4, 7, 8, 1, 97]), [1, -3])
         self.assertEqual(answers([5, 1, 2, 3, 4, 1, 97]), [1, -2])
         self.assertEqual(answers([6, 1, 2, 3, 4, 5, 1, 97]), [1, -2])
+        self.assertEqual(answers([7, 1, 2]), [1, -2])
+        self.assertEqual(answers([8, 1, 97]), [1, -3])
+        self.assertEqual(answers([9]), [1, 0])
+        self.assertEqual(answers([10, 1, 97, 2, 97, 10]), [1, -3])
+        self.assertEqual(answers([11]), [1, 0])
         self.assertEqual(answers([12]), [4, 0, 0, 0, 0])
 
     def test_forty_calls(self):
@@ -102,6 +207,17 @@ class Large(unittest.TestCase):
         lines += ["@chunk b(p)", 50 * "@<p>", "@end"]
         given = answers(read_lines(*lines) + 10 * (variant("") + file("m")))
         self.assertEqual(given, [2, 0, 3] + 10 * [1, 0, 4, 6, 0, 0, 0])
+
+    def test_check_of_texts_as_long_as_they_may_be(self):
+        calls = read_lines(*TEXT) + check("m", 24000 * [10]) + check("m", "x\n" + 4000 * "x")
+        self.assertLessEqual(len(calls), 30000)
+        self.assertEqual(answers(calls), [2, 0, 1, 3, 0, 0, 0, 3, 0, 1, 0])
+
+    def test_answers_of_many_numbers(self):
+        lines = ["@file m"] + 9 * ["@{a}"] + [100 * "x", "@end", "@chunk a"] + 11 * [200 * "x"] + ["@end"]
+        given = answers(read_lines(*lines) + 39 * file("m"))
+        text = text_answer(99 * [200 * "x"] + [100 * "x"])
+        self.assertEqual(given, [2, 0, 2] + 39 * ([len(text)] + text))
 
 
 if __name__ == "__main__":
